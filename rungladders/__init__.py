@@ -1,0 +1,1 @@
+"""Rungladders: ladders of resistors with any number of sections."""
