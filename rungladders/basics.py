@@ -1,6 +1,6 @@
 """Integers, fractions and resistances, as all modules of the package need them."""
 
-from rungladders.limits import GREATEST, OPEN
+from rungladders.limits import GREATEST, MOST_SECTIONS, OPEN
 
 
 def is_integer(value):
@@ -9,6 +9,10 @@ def is_integer(value):
 
 def is_integer_within(value, least, most):
     return is_integer(value) and least <= value <= most
+
+
+def is_count(value):
+    return is_integer_within(value, 0, MOST_SECTIONS)
 
 
 def is_pair_of_integers(value):
