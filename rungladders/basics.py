@@ -48,6 +48,17 @@ def lowest_terms(top, bottom):
     return (top // divisor, bottom // divisor)
 
 
+def lowest_pair(fraction_or_open):
+    """A fraction in lowest terms, or an open end, as a pair."""
+    top, bottom = pair_of(fraction_or_open)
+    return lowest_terms(top, bottom)
+
+
+def pair_order(first, second):
+    """-1, 0 or 1, as the first pair is less than the second one, equal to it or greater; both may be open ends."""
+    return sign(first[0] * second[1] - second[0] * first[1])
+
+
 def fraction_text(top, bottom):
     """The text of a fraction in lowest terms."""
     if bottom == 1:

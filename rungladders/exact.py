@@ -1,7 +1,8 @@
 """Numbers that are told exactly: fractions, and roots of quadratic equations."""
 
 from rungladders.basics import (
-    common_divisor, fraction_text, is_integer_within, is_resistance, lowest_terms, pair_of, sign, square_root,
+    common_divisor, fraction_text, is_integer_within, is_resistance, lowest_terms, pair_of, pair_order, sign,
+    square_root,
 )
 from rungladders.errors import InvalidNumber, InvalidResistance
 from rungladders.limits import OPEN
@@ -46,12 +47,7 @@ class Exact:
         """The greatest integer that is at most times * x."""
         if not is_integer_within(times, 1, GREATEST_PART):
             raise InvalidNumber(times)
-        square, line, whole = self.parts
-        if square == 0:
-            return times * whole // line
-        # Rounding the root down first loses nothing, as only integers are taken from it and divide it.
-        root = square_root(times * times * under_root(square, line, whole))
-        return (root - times * line) // (2 * square)
+        return floor_of(self.parts, times)
 
     def order(self, other):
         """-1, 0 or 1, as the number is less than the other one, equal to it or greater."""
@@ -98,6 +94,16 @@ def equation_of_fraction(top, bottom):
     return (0, bottom_part, top_part)
 
 
+def floor_of(parts, times):
+    """The greatest integer that is at most times * x, where x is the number with these parts."""
+    square, line, whole = parts
+    if square == 0:
+        return times * whole // line
+    # Rounding the root down first loses nothing, as only integers are taken from it and divide it.
+    root = square_root(times * times * under_root(square, line, whole))
+    return (root - times * line) // (2 * square)
+
+
 def beside_fraction(parts, top, bottom):
     """-1, 0 or 1, as the number with these parts is less than top / bottom, equal to it or greater."""
     square, line, whole = parts
@@ -113,6 +119,25 @@ def sign_along_line(parts, slope, height):
     if slope == 0 or height < 0:
         return sign(-height)
     return beside_fraction(parts, height, slope)
+
+
+def limit_beside(limit, pair):
+    """-1, 0 or 1, as a limit, an Exact or OPEN, is less than a fraction or an open end, equal to it or greater."""
+    if limit == OPEN:
+        return pair_order(OPEN, pair)
+    top, bottom = pair
+    if bottom == 0:
+        return -1
+    return beside_fraction(limit.parts, top, bottom)
+
+
+def limits_order(limit, other_limit):
+    """-1, 0 or 1, as the limit is less than the other one, equal to it or greater."""
+    if other_limit == OPEN:
+        return limit_beside(limit, OPEN)
+    if limit == OPEN:
+        return 1
+    return limit.order(other_limit)
 
 
 def with_commas(parts):

@@ -1,6 +1,6 @@
 """Ladders: runs of one pattern in front of a load."""
 
-from rungladders.basics import is_count, is_resistance, lowest_terms, pair_of, sign
+from rungladders.basics import is_count, is_resistance, lowest_pair, pair_order
 from rungladders.errors import InvalidCount, InvalidResistance, NotAPattern
 from rungladders.exact import Exact
 from rungladders.limits import OPEN
@@ -15,9 +15,8 @@ class Ladder:
             raise NotAPattern(pattern)
         if not is_resistance(load):
             raise InvalidResistance(load)
-        top, bottom = pair_of(load)
         self.section = pattern
-        self.behind = lowest_terms(top, bottom)
+        self.behind = lowest_pair(load)
         self.far = ladder_limit(pattern.matrix)
 
     def __call__(self, count):
@@ -26,23 +25,30 @@ class Ladder:
             raise InvalidCount(count)
         pair = self.behind
         for number in range(count):
-            pair = shown_before(self.section.matrix, pair)
-        top, bottom = pair
-        return lowest_terms(top, bottom)
+            pair = self.after(pair)
+        return lowest_pair(pair)
 
     def opening(self, count):
         """What the ladder shows with 0 sections, with 1, and so on, so many of them."""
         if not is_count(count):
             raise InvalidCount(count)
-        top, bottom = self.behind
+        pair = self.behind
         for number in range(count):
-            yield (top, bottom)
-            high, low = shown_before(self.section.matrix, (top, bottom))
-            top, bottom = lowest_terms(high, low)
+            yield pair
+            pair = lowest_pair(self.after(pair))
+
+    def after(self, pair):
+        """What the ladder shows next, not in lowest terms."""
+        return shown_before(self.section.matrix, pair)
+
+    def last_stage(self):
+        """A number, and the pattern that the run is a ladder of from this number on."""
+        return (0, self.section)
 
     @property
     def goes(self):
-        return first_step(self.section.matrix, self.behind)
+        # A pattern shows more in front of more, so a ladder goes on for ever as it begins.
+        return pair_order(self.after(self.behind), self.behind)
 
     @property
     def limit(self):
@@ -55,14 +61,6 @@ class Ladder:
     @property
     def pattern(self):
         return self.section
-
-
-def first_step(matrix, pair):
-    """1, -1 or 0, as a pattern with this matrix shows more than what it stands in front of, less or the same."""
-    # A pattern shows more in front of more, so a ladder goes on for ever as it begins.
-    top, bottom = pair
-    high, low = shown_before(matrix, pair)
-    return sign(high * bottom - top * low)
 
 
 def ladder_limit(matrix):

@@ -1,6 +1,6 @@
 """Patterns: rows of pieces, and what they show in front of a load."""
 
-from rungladders.basics import is_integer_within, is_resistance, lowest_terms, pair_of
+from rungladders.basics import is_integer_within, is_resistance, lowest_pair, lowest_terms, pair_of
 from rungladders.errors import InvalidPieces, InvalidResistance, InvalidText, TooMany
 from rungladders.limits import MOST_JOINED, MOST_OHMS, MOST_PIECES
 
@@ -19,16 +19,15 @@ class Pattern:
 
     def __init__(self, *pieces):
         self.row = checked_row(pieces)
-        self.matrix, scale = matrix_and_scale(self.row)
+        self.matrix, self.scale = matrix_and_scale(self.row)
         # These four are the same for all rows that show the same, so they tell which patterns are equal.
-        self.four = tuple([lowest_terms(entry, scale) for entry in self.matrix])
+        self.four = tuple([lowest_terms(entry, self.scale) for entry in self.matrix])
 
     def __call__(self, load):
         """What the pattern shows in front of the load."""
         if not is_resistance(load):
             raise InvalidResistance(load)
-        top, bottom = shown_before(self.matrix, pair_of(load))
-        return lowest_terms(top, bottom)
+        return lowest_pair(shown_before(self.matrix, pair_of(load)))
 
     @property
     def pieces(self):

@@ -1,6 +1,7 @@
 """What the document says of pieces, with Fractions and one step after another, apart from the package."""
 
 from fractions import Fraction
+from math import gcd
 
 OPEN = (1, 0)
 
@@ -36,6 +37,39 @@ def run_of(row, load, count):
     for _ in range(count):
         number = row_shows(row, number)
         told.append(pair_from(number))
+    return told
+
+
+def box_run_of(rows, load, count, sense):
+    """R(0) to R(count) of the greatest (1) or least (-1) run, as pairs, and which kinds are taken at 1, 2, and so on."""
+    pair = pair_from(number_of(load))
+    told, taken = [pair], []
+    for _ in range(count):
+        shown = [pair_from(row_shows(row, number_of(pair))) for row in rows]
+        pair = shown[0]
+        for other in shown:
+            if sense * order_of(other, pair) > 0:
+                pair = other
+        told.append(pair)
+        taken.append([at for at, other in enumerate(shown) if other == pair])
+    return told, taken
+
+
+def fast_run_of(row, load, count):
+    """R(0) to R(count), as pairs that need not be in lowest terms, for great counts."""
+    a, b, c, d = 1, 0, 0, 1
+    for word, ohms in row:
+        if word == "rail":
+            b, d = a * ohms + b, c * ohms + d
+        else:
+            a, b, c, d = a * ohms + b, b * ohms, c * ohms + d, d * ohms
+    common = gcd(a, b, c, d)
+    a, b, c, d = a // common, b // common, c // common, d // common
+    top, bottom = (load, 1) if isinstance(load, int) else load
+    told = [(top, bottom)]
+    for _ in range(count):
+        top, bottom = a * top + b * bottom, c * top + d * bottom
+        told.append((top, bottom))
     return told
 
 

@@ -1,24 +1,37 @@
 import inspect
 import unittest
 
+from rungladders.boxes import Box, Greatest, Least
+from rungladders.comparing import alike, count_of, less, more_load, never_more, settled, within
+from rungladders.equals import repetition, ring, star
 from rungladders.exact import Exact
 from rungladders.ladders import Ladder
 from rungladders.numbers import Numbers
 from rungladders.patterns import Pattern
 
-FILES = {Exact: "exact", Numbers: "numbers", Pattern: "patterns", Ladder: "ladders"}
+FILES = {Exact: "exact", Numbers: "numbers", Pattern: "patterns", Ladder: "ladders", Box: "boxes", Greatest: "boxes", Least: "boxes"}
+FUNCTIONS = {
+    "comparing": [less, alike, within, count_of, settled, never_more, more_load],
+    "equals": [star, ring, repetition],
+}
 METHODS = {
     Exact: ["__init__", "compare", "floor", "order", "__eq__", "__str__", "__repr__"],
     Numbers: ["__init__", "ascending", "__contains__", "__and__", "__or__", "__sub__", "__invert__", "__eq__", "__bool__",
               "__str__", "__repr__"],
     Pattern: ["__init__", "__call__", "__add__", "turned", "__eq__", "__len__", "__str__", "__repr__"],
     Ladder: ["__init__", "__call__", "opening"],
+    Box: ["__init__", "__len__", "greatest", "least"],
+    Greatest: ["__call__", "opening", "order", "forever"],
+    Least: ["__call__", "opening", "order", "forever"],
 }
 PROPERTIES = {
     Exact: ["fraction", "equation"],
     Numbers: ["stretches", "smallest", "endless"],
     Pattern: ["pieces", "numbers"],
     Ladder: ["goes", "limit", "load", "pattern"],
+    Box: ["kinds"],
+    Greatest: ["goes", "limit", "load", "box"],
+    Least: ["goes", "limit", "load", "box"],
 }
 ARGUMENTS = [
     (Exact, "(square, line, whole)"), (Exact.compare, "(self, resistance)"), (Exact.floor, "(self, times)"),
@@ -26,6 +39,12 @@ ARGUMENTS = [
     (Numbers, "(*stretches)"), (Numbers.ascending, "(self, count)"),
     (Pattern, "(*pieces)"), (Pattern.__call__, "(self, load)"), (Pattern.turned, "(self)"), (Pattern.read, "(text)"),
     (Ladder, "(pattern, load)"), (Ladder.__call__, "(self, count)"), (Ladder.opening, "(self, count)"),
+    (Box, "(*kinds)"), (Box.greatest, "(self, load)"), (Box.least, "(self, load)"),
+    *[(function, text) for kind in (Greatest, Least) for function, text in (
+        (kind.__call__, "(self, count)"), (kind.opening, "(self, count)"), (kind.order, "(self, count)"), (kind.forever, "(self)"))],
+    (less, "(run, other)"), (alike, "(run, other)"), (within, "(run, low, high)"), (count_of, "(run, target)"),
+    (settled, "(run, near)"), (never_more, "(pattern, other)"), (more_load, "(pattern, other)"),
+    (star, "(pattern)"), (ring, "(pattern)"), (repetition, "(pattern)"),
 ]
 
 
@@ -33,6 +52,10 @@ class InterfaceTest(unittest.TestCase):
     def test_defined_in_its_file(self):
         for kind, file in FILES.items():
             self.assertEqual(kind.__module__, f"rungladders.{file}")
+        for file, functions in FUNCTIONS.items():
+            for function in functions:
+                self.assertTrue(inspect.isfunction(function))
+                self.assertEqual(function.__module__, f"rungladders.{file}")
 
     def test_members_stand_in_the_class_itself(self):
         for kind in FILES:
@@ -47,7 +70,7 @@ class InterfaceTest(unittest.TestCase):
             self.assertEqual(str(inspect.signature(function)), text)
 
     def test_generators(self):
-        for function in (Numbers.ascending, Ladder.opening):
+        for function in (Numbers.ascending, Ladder.opening, Greatest.opening, Least.opening):
             self.assertTrue(inspect.isgeneratorfunction(function))
 
 
@@ -69,6 +92,29 @@ class ExamplesTest(unittest.TestCase):
              Ladder(line, 0).limit, golden.turned()(0)],
             [(2, 1), ((2, 1), (1, 1), (1, 1), (1, 1)), 'rail 1, rung 1, rail 3', [(1, 1), (3, 2), (8, 5), (21, 13)], 1,
              (1, -1, 1), (1, 0), (1, 2)])
+
+    def test_comparing(self):
+        golden, stairs = Pattern(("rail", 1), ("rung", 1)), Pattern(("rail", 1), ("rung", 2))
+        low, high = Ladder(golden, 5), Ladder(stairs, 1)
+        self.assertEqual(
+            [str(less(low, high)), str(alike(Ladder(golden, 0), Ladder(stairs, 0))), str(within(Ladder(golden, 0), (3, 2), (13, 8))),
+             count_of(Ladder(golden, 0), (8, 5)), settled(Ladder(stairs, 0), (1, 10)), never_more(golden, stairs), more_load(golden, stairs)],
+            ['from 2', '0 to 1', 'from 2', 3, 3, True, None])
+
+    def test_boxes(self):
+        box = Box(Pattern(("rail", 1), ("rung", 1)), Pattern(("rung", 2)), Pattern(("rail", 1), ("rung", 2)))
+        high, low = box.greatest(0), box.least(3)
+        self.assertEqual(
+            [list(high.opening(4)), high.order(3), high.forever(), str(high.limit), list(low.opening(3)), low.order(2), low.forever(),
+             str(low.limit)],
+            [[(0, 1), (1, 1), (5, 3), (21, 11)], (2, 2, 0), (0, 2), '2', [(3, 1), (6, 5), (3, 4)], (1, 1), (0, 1), '0'])
+
+    def test_equals(self):
+        mixed, golden = Pattern(("rail", 1), ("rung", 2), ("rail", 3), ("rung", 6)), Pattern(("rail", 1), ("rung", 1))
+        self.assertEqual(
+            [star(mixed), ring(golden), repetition(golden + golden), repetition(Pattern(("rail", 2)))],
+            [(('rail', (17, 11)), ('rung', (12, 11)), ('rail', (18, 11))), (('rail', (1, 1)), ('rung', (1, 1))),
+             (2, (('rail', (1, 1)), ('rung', (1, 1)))), None])
 
 
 if __name__ == "__main__":
