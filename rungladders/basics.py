@@ -2,6 +2,9 @@
 
 from rungladders.limits import GREATEST, MOST_SECTIONS, OPEN
 
+LETTERS = "abcdefghijklmnopqrstuvwxyz"
+LONGEST_NAME = 8
+
 
 def is_integer(value):
     return isinstance(value, int) and not isinstance(value, bool)
@@ -9,6 +12,12 @@ def is_integer(value):
 
 def is_integer_within(value, least, most):
     return is_integer(value) and least <= value <= most
+
+
+def is_name(value):
+    if not isinstance(value, str) or len(value) < 1 or len(value) > LONGEST_NAME:
+        return False
+    return all([letter in LETTERS for letter in value])
 
 
 def is_count(value):
@@ -64,6 +73,14 @@ def fraction_text(top, bottom):
     if bottom == 1:
         return str(top)
     return f"{top}/{bottom}"
+
+
+def resistance_text(pair):
+    """The text of a fraction in lowest terms, or of an open end."""
+    top, bottom = pair
+    if bottom == 0:
+        return "open"
+    return fraction_text(top, bottom)
 
 
 def sign(number):

@@ -1,7 +1,8 @@
 """Boxes of patterns, and the greatest and the least that their kinds show."""
 
-from rungladders.basics import is_count, is_resistance, lowest_pair, pair_order
-from rungladders.errors import InvalidCount, InvalidKinds, InvalidResistance
+from rungladders.basics import lowest_pair, pair_order
+from rungladders.checks import check_count, check_resistance
+from rungladders.errors import InvalidKinds, NotARun
 from rungladders.exact import limits_order
 from rungladders.ladders import Ladder, ladder_limit
 from rungladders.limits import MOST_KINDS
@@ -29,14 +30,12 @@ class Box:
 
     def greatest(self, load):
         """The run of the greatest resistances that the kinds show in front of the load."""
-        if not is_resistance(load):
-            raise InvalidResistance(load)
+        check_resistance(load)
         return Greatest(self, load)
 
     def least(self, load):
         """The run of the least resistances that the kinds show in front of the load."""
-        if not is_resistance(load):
-            raise InvalidResistance(load)
+        check_resistance(load)
         return Least(self, load)
 
 
@@ -65,8 +64,7 @@ class BoxRun:
 
     def pick(self, count):
         """The kinds that are taken, the front one first, and what they show, not in lowest terms."""
-        if not is_count(count):
-            raise InvalidCount(count)
+        check_count(count)
         picked = []
         pair = self.behind
         for number in range(count):
@@ -196,13 +194,13 @@ def best_limit(limits, sense):
 
 def first_pairs(run, count):
     """What a run of a box shows with 0 kinds, with 1, and so on, so many of them."""
-    if not is_count(count):
-        raise InvalidCount(count)
+    check_count(count)
     pair = run.behind
     for number in range(count):
         yield pair
         pair = lowest_pair(run.after(pair))
 
 
-def is_run(value):
-    return isinstance(value, (Ladder, Greatest, Least))
+def check_run(value):
+    if not isinstance(value, (Ladder, Greatest, Least)):
+        raise NotARun(value)

@@ -1,26 +1,28 @@
 """Runs beside one another and beside bounds, and patterns beside one another, for all numbers and all loads."""
 
-from rungladders.basics import is_resistance, lowest_terms, pair_of, pair_order
-from rungladders.boxes import is_run
-from rungladders.errors import InvalidResistance, NoLimit, NotAPattern, NotARun
+from rungladders.basics import lowest_terms, pair_of, pair_order
+from rungladders.boxes import check_run
+from rungladders.checks import check_pattern, check_resistance
+from rungladders.errors import InvalidResistance, NoLimit
 from rungladders.exact import limit_beside
 from rungladders.limits import OPEN
 from rungladders.numbers import Numbers
 from rungladders.orders import orders_of
 from rungladders.parabolas import difference, never_below, sign_at, times
-from rungladders.patterns import Pattern
 from rungladders.searches import least_number
 
 
 def less(run, other):
     """The Numbers at which the run shows less than the other one."""
-    check_runs(run, other)
+    check_run(run)
+    check_run(other)
     return numbers_with(orders_of(run, other), -1)
 
 
 def alike(run, other):
     """The Numbers at which both runs show the same."""
-    check_runs(run, other)
+    check_run(run)
+    check_run(other)
     return numbers_with(orders_of(run, other), 0)
 
 
@@ -67,14 +69,16 @@ def settled(run, near):
 
 def never_more(pattern, other):
     """Whether the pattern shows at most what the other one shows, in front of all loads."""
-    check_patterns(pattern, other)
+    check_pattern(pattern)
+    check_pattern(other)
     gap = difference(other.matrix, pattern.matrix)
     return never_below(gap, (0, 1), OPEN)
 
 
 def more_load(pattern, other):
     """A load in front of which the pattern shows more than the other one, None if there is none."""
-    check_patterns(pattern, other)
+    check_pattern(pattern)
+    check_pattern(other)
     gap = difference(pattern.matrix, other.matrix)
     if never_below(times(gap, -1), (0, 1), OPEN):
         return None
@@ -86,27 +90,6 @@ def more_load(pattern, other):
     if square == 0:
         return lowest_terms(line - whole, line)
     return lowest_terms(line, -2 * square)
-
-
-def check_run(value):
-    if not is_run(value):
-        raise NotARun(value)
-
-
-def check_runs(run, other):
-    check_run(run)
-    check_run(other)
-
-
-def check_resistance(value):
-    if not is_resistance(value):
-        raise InvalidResistance(value)
-
-
-def check_patterns(pattern, other):
-    for value in (pattern, other):
-        if not isinstance(value, Pattern):
-            raise NotAPattern(value)
 
 
 def numbers_with(orders, wanted):

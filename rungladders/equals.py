@@ -1,8 +1,7 @@
 """Rows of pieces with fractions as ohms that show the same as a pattern."""
 
 from rungladders.basics import lowest_terms
-from rungladders.errors import NotAPattern
-from rungladders.patterns import Pattern
+from rungladders.checks import check_pattern
 
 
 def star(pattern):
@@ -110,8 +109,3 @@ def star_row(front, middle, back, bottom):
 
 def piece(word, top, bottom):
     return (word, lowest_terms(top, bottom))
-
-
-def check_pattern(value):
-    if not isinstance(value, Pattern):
-        raise NotAPattern(value)

@@ -1,28 +1,25 @@
 """Ladders: runs of one pattern in front of a load."""
 
-from rungladders.basics import is_count, is_resistance, lowest_pair, pair_order
-from rungladders.errors import InvalidCount, InvalidResistance, NotAPattern
+from rungladders.basics import lowest_pair, pair_order
+from rungladders.checks import check_count, check_pattern, check_resistance
 from rungladders.exact import Exact
 from rungladders.limits import OPEN
-from rungladders.patterns import Pattern, shown_before
+from rungladders.patterns import shown_before
 
 
 class Ladder:
     """The run that begins with the load and goes on with what the pattern shows in front of it."""
 
     def __init__(self, pattern, load):
-        if not isinstance(pattern, Pattern):
-            raise NotAPattern(pattern)
-        if not is_resistance(load):
-            raise InvalidResistance(load)
+        check_pattern(pattern)
+        check_resistance(load)
         self.section = pattern
         self.behind = lowest_pair(load)
         self.far = ladder_limit(pattern.matrix)
 
     def __call__(self, count):
         """What the ladder shows with this number of sections."""
-        if not is_count(count):
-            raise InvalidCount(count)
+        check_count(count)
         pair = self.behind
         for number in range(count):
             pair = self.after(pair)
@@ -30,8 +27,7 @@ class Ladder:
 
     def opening(self, count):
         """What the ladder shows with 0 sections, with 1, and so on, so many of them."""
-        if not is_count(count):
-            raise InvalidCount(count)
+        check_count(count)
         pair = self.behind
         for number in range(count):
             yield pair

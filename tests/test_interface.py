@@ -1,18 +1,26 @@
 import inspect
 import unittest
 
+from rungladders.benches import Bench
 from rungladders.boxes import Box, Greatest, Least
+from rungladders.certificates import certify_apart, certify_bound, certify_limit, certify_never, certify_value
+from rungladders.checker import accepts
 from rungladders.comparing import alike, count_of, less, more_load, never_more, settled, within
+from rungladders.console import Console
 from rungladders.equals import repetition, ring, star
+from rungladders.errors import Broken
 from rungladders.exact import Exact
 from rungladders.ladders import Ladder
 from rungladders.numbers import Numbers
 from rungladders.patterns import Pattern
 
-FILES = {Exact: "exact", Numbers: "numbers", Pattern: "patterns", Ladder: "ladders", Box: "boxes", Greatest: "boxes", Least: "boxes"}
+FILES = {Exact: "exact", Numbers: "numbers", Pattern: "patterns", Ladder: "ladders", Box: "boxes", Greatest: "boxes", Least: "boxes",
+         Bench: "benches", Console: "console"}
 FUNCTIONS = {
     "comparing": [less, alike, within, count_of, settled, never_more, more_load],
     "equals": [star, ring, repetition],
+    "checker": [accepts],
+    "certificates": [certify_value, certify_bound, certify_apart, certify_never, certify_limit],
 }
 METHODS = {
     Exact: ["__init__", "compare", "floor", "order", "__eq__", "__str__", "__repr__"],
@@ -23,6 +31,8 @@ METHODS = {
     Box: ["__init__", "__len__", "greatest", "least"],
     Greatest: ["__call__", "opening", "order", "forever"],
     Least: ["__call__", "opening", "order", "forever"],
+    Bench: ["__init__", "__setitem__", "__getitem__", "__contains__", "__len__", "drop", "claim", "lift", "undo", "do_all", "trial", "tried"],
+    Console: ["__init__", "say"],
 }
 PROPERTIES = {
     Exact: ["fraction", "equation"],
@@ -32,6 +42,8 @@ PROPERTIES = {
     Box: ["kinds"],
     Greatest: ["goes", "limit", "load", "box"],
     Least: ["goes", "limit", "load", "box"],
+    Bench: ["names", "claims", "changes"],
+    Console: ["bench"],
 }
 ARGUMENTS = [
     (Exact, "(square, line, whole)"), (Exact.compare, "(self, resistance)"), (Exact.floor, "(self, times)"),
@@ -45,6 +57,11 @@ ARGUMENTS = [
     (less, "(run, other)"), (alike, "(run, other)"), (within, "(run, low, high)"), (count_of, "(run, target)"),
     (settled, "(run, near)"), (never_more, "(pattern, other)"), (more_load, "(pattern, other)"),
     (star, "(pattern)"), (ring, "(pattern)"), (repetition, "(pattern)"),
+    (Bench, "()"), (Bench.drop, "(self, name)"), (Bench.claim, "(self, claim)"), (Bench.lift, "(self, index)"), (Bench.undo, "(self)"),
+    (Bench.do_all, "(self, *deeds, watch=None)"), (Bench.trial, "(self)"), (Bench.tried, "(self, work)"),
+    (accepts, "(claim, certificate)"), (certify_value, "(run, count)"), (certify_bound, "(pattern, load, bound)"),
+    (certify_apart, "(run, other)"), (certify_never, "(pattern, other)"), (certify_limit, "(pattern, load)"),
+    (Console, "()"), (Console.say, "(self, line)"),
 ]
 
 
@@ -115,6 +132,36 @@ class ExamplesTest(unittest.TestCase):
             [star(mixed), ring(golden), repetition(golden + golden), repetition(Pattern(("rail", 2)))],
             [(('rail', (17, 11)), ('rung', (12, 11)), ('rail', (18, 11))), (('rail', (1, 1)), ('rung', (1, 1))),
              (2, (('rail', (1, 1)), ('rung', (1, 1)))), None])
+
+    def test_benches(self):
+        bench, golden = Bench(), Pattern(("rail", 1), ("rung", 1))
+        done = bench.do_all(("set", "a", golden), ("set", "b", Pattern(("rail", 1), ("rung", 2))), ("claim", ("never", "a", "b")),
+                            ("claim", ("most", "a", 0, 2)))
+        self.assertIsNone(bench.undo())
+        self.assertEqual([done, bench.names, bench.claims, bench.changes, bench.tried(len), bench.undo(), len(bench.claims)],
+                         [4, ('a', 'b'), (('never', 'a', 'b'),), 3, 2, None, 0])
+
+    def test_a_claim_that_is_broken(self):
+        bench = Bench()
+        bench["a"] = Pattern(("rail", 1), ("rung", 1))
+        with self.assertRaises(Broken) as context:
+            bench.claim(("most", "a", 0, 1))
+        self.assertEqual(context.exception.index, 0)
+
+    def test_certificates(self):
+        golden, stairs = Pattern(("rail", 1), ("rung", 1)), Pattern(("rail", 1), ("rung", 2))
+        claim, paper = certify_apart(Ladder(golden, 5), Ladder(stairs, 1))
+        self.assertEqual(
+            [claim[5], accepts(claim, paper), accepts(claim, (3, 1)), certify_value(Ladder(golden, 0), 2), certify_bound(golden, 0, 1),
+             certify_limit(golden, 7)[0][3]],
+            [2, True, False, (('value', (('rail', 1), ('rung', 1)), (0, 1), 2, (3, 2)), ()), None, (1, -1, 1)])
+
+    def test_console(self):
+        console = Console()
+        self.assertEqual(
+            [console.say("a = rail 1, rung 1"), console.say("b = rail 1, rung 2"), console.say("a before open at 2"), console.say("a limit 0"),
+             console.say("b limit 0"), console.say("a less 5 b 1"), console.say("a never b"), console.say("c = b turned")],
+            ['rail 1, rung 1', 'rail 1, rung 2', '5/3', 'root of 1, -1, 1', '2', 'from 2', 'ok', 'rung 2, rail 1'])
 
 
 if __name__ == "__main__":

@@ -43,7 +43,7 @@ class ClassesTest(unittest.TestCase):
 
     def test_attributes_that_are_read_are_assigned(self):
         members = {method.name for method in self.methods} | self.attributes_assigned()
-        methods = {"append", "join", "split", "bit_length"}
+        methods = {"append", "join", "split", "bit_length", "get", "partition"}
         for node in self.nodes:
             if isinstance(node, ast.Attribute) and isinstance(node.ctx, ast.Load):
                 self.assertIn(node.attr, members | methods)
@@ -98,6 +98,24 @@ class ClassesTest(unittest.TestCase):
             if function.name in yielding:
                 self.assertTrue(any(isinstance(node, (ast.Yield, ast.YieldFrom)) for node in ast.walk(function)))
                 self.assertFalse(function.decorator_list or function.name.startswith("__"))
+
+    def test_classes_with_items_are_not_iterated_over(self):
+        for kind in self.classes:
+            methods = {part.name: part for part in kind.body if isinstance(part, ast.FunctionDef)}
+            if "__getitem__" in methods:
+                self.assertEqual([type(row) for row in methods["__iter__"].body], [ast.Raise])
+
+    def test_ends_of_trials_only_assign_attributes(self):
+        for method in self.methods:
+            if method.name == "__exit__":
+                for row in method.body:
+                    self.assertIsInstance(row, ast.Assign)
+                    self.assertIsInstance(row.value, ast.Attribute)
+        for node in self.nodes:
+            if isinstance(node, ast.Try):
+                for row in node.finalbody:
+                    self.assertIsInstance(row, ast.Assign)
+                    self.assertIsInstance(row.value, ast.Name)
 
     def test_methods_are_defined_once(self):
         for kind in self.classes:
