@@ -119,7 +119,7 @@ def first_passing(run, bound):
 
 def first_with(run, bound, holds):
     # A run that moves never shows its limit, so it comes to just those bounds that the limit lies behind.
-    if not holds(run.load) and run.goes * limit_beside(run.limit, bound) <= 0:
+    if run.goes * limit_beside(run.limit, bound) <= 0:
         return None
     return least_number(run, holds)
 
@@ -127,8 +127,6 @@ def first_with(run, bound, holds):
 def is_near(pair, limit, distance):
     """Whether the pair is at most so far from the limit, which is no open end."""
     top, bottom = pair
-    if bottom == 0:
-        return False
     middle, step, whole = top * distance[1], distance[0] * bottom, bottom * distance[1]
     low = (max(0, middle - step), whole)
     high = (middle + step, whole)

@@ -52,9 +52,9 @@ class OneLimit:
         """Whether the final order holds from this number on, where the runs show these two pairs."""
         if number < self.begin or pair_order(pair, other_pair) != self.final:
             return False
-        # The order stays where, all the way to the limit, the pattern of the greater one never shows less.
-        gap = times(self.gap, self.final)
-        return never_below(gap, pair, self.common_limit) and never_below(gap, other_pair, self.common_limit)
+        # Where the own pattern shows at least as much as the other one does (or at most, with -1), the run shows
+        # next at least what the other pattern makes of it now, which is more than what that makes of the other run.
+        return never_below(times(self.gap, self.final), pair, self.common_limit)
 
 
 def orders_of(run, other):

@@ -264,6 +264,13 @@ class WrongTest(unittest.TestCase):
                       (0, EqualsAll()), (EqualsNothing(), 0), (), None, 0]:
             self.assertIs(accepts(claim, order), False, order)
 
+    def test_orders_of_another_length_where_the_run_stays(self):
+        for word in ("greatest", "least of all"):
+            for rows, load in (((LINE,), (1, 0)), ((RUNG, RUNG), 0), ((STAIRS,), 2)):
+                for count in (0, 1, 3, 100):
+                    for length in (0, 1, 2, 3, 4, 99, 100, 101):
+                        self.assertIs(accepts((word, rows, load, count, load), (0,) * length), length == count)
+
     def test_any_two_values(self):
         values = [*WRONG_VALUES, *[claim for claim, _ in RIGHT[::3]], *[(word,) for word in ("value", "limit", "apart")]]
         for claim in values:

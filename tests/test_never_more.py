@@ -1,10 +1,12 @@
 import unittest
+from fractions import Fraction
 
 from model import number_of, order_of, pair_from, row_shows
 from rungladders.comparing import more_load, never_more
 from rungladders.limits import OPEN
 from rungladders.patterns import Pattern
 from run_samples import MOST, Drawer, pattern_of, row_with
+from test_orders_late import rows_by_limit
 
 PROBES = [(1, 0), 0, 1, 2, 3, 5, 8, 12, 30, 100, 10 ** 6, MOST, (1, 2), (1, 3), (2, 3), (1, 10), (7, 5), (1, 1000), (1, MOST), (17, 4)]
 
@@ -81,6 +83,26 @@ class NeverMoreTest(unittest.TestCase):
                 load = more_load(pattern_of(row), pattern_of(other_row))
                 self.assertNotIn(load, [OPEN, (0, 1)])
         self.assertGreater(many, 10)
+
+    def test_more_only_within_narrow_bounds(self):
+        for text, other_text in [("rail 11, rung 4, rung 2", "rail 8, rung 9, rail 5, rung 11"), ("rail 3, rung 2", "rung 12, rung 11, rail 5, rail 10"),
+                                 ("rail 6, rung 7, rung 5", "rung 11, rail 12, rail 11"), ("rung 12, rail 6, rail 3, rung 11", "rung 10, rail 11"),
+                                 ("rail 3, rail 3, rung 8, rung 12", "rail 4, rung 7, rail 11, rail 10")]:
+            self.assertEqual(self.check_both(row_with(text), row_with(other_text)), (False, False))
+
+    def test_patterns_that_touch(self):
+        # With one limit and one rate two patterns show the same at the limit, and one of them less everywhere else.
+        many = 0
+        for limit, rows in rows_by_limit().items():
+            rates = {}
+            for row in rows:
+                a, _, _, d = [Fraction(*pair) for pair in pattern_of(row).numbers]
+                rates.setdefault(a + d, []).append(row)
+            for row, *others in rates.values():
+                for other_row in others:
+                    many += 1
+                    self.assertEqual(sorted(self.check_both(row, other_row)), [False, True])
+        self.assertGreater(many, 40)
 
     def test_equal_at_the_ends(self):
         # Both rows show the same in front of 0 and of an open end, or grow alike, and are unlike between.

@@ -7,6 +7,7 @@ from itertools import product
 from model import ALL_PIECES, fast_run_of, order_of
 from rungladders.comparing import less
 from rungladders.ladders import Ladder
+from rungladders.limits import OPEN
 from rungladders.numbers import Numbers
 from run_samples import MOST, BoxSample, Drawer, LadderSample, pattern_of, row_with
 from test_orders import OrdersCase
@@ -142,6 +143,56 @@ class OneLimitTest(OrdersCase):
                         sample = LadderSample(row, load)
                         self.assertTrue(self.check(sample, LadderSample(other_row, drawer.random.choice(loads))))
         self.assertGreater(many, 40)
+
+    def test_one_rate_and_nearly_one_pull(self):
+        """Loads for which the final order hangs on very little, and comes late or never."""
+        for limit, rows in self.GROUPS.items():
+            rates = {}
+            for row in rows if limit[0] == 0 else ():
+                a, b, c, d = [Fraction(*pair) for pair in pattern_of(row).numbers]
+                # 1 over the distance of both numbers that the pattern leaves as they are.
+                rates.setdefault(a + d, []).append((row, c / (2 * c * Fraction(limit[2], limit[1]) + d - a)))
+            for (row, rest), *others in rates.values():
+                for other_row, other_rest in others:
+                    self.check_pulls(Fraction(limit[2], limit[1]), row, rest, other_row, other_rest)
+
+    def check_pulls(self, limit, row, rest, other_row, other_rest):
+        for load in (Fraction(0), limit / 2, limit + 1, limit + 7, OPEN):
+            pull = (0 if load == OPEN else 1 / (load - limit)) + rest
+            if pull == other_rest:
+                continue
+            other_load = limit + 1 / (pull - other_rest)
+            side = 1 if load == OPEN else load - limit
+            if other_load < 0 or (other_load - limit) * side < 0:
+                continue
+            pair = OPEN if load == OPEN else pair_of(load)
+            for step in (0, Fraction(1, 100), Fraction(-1, 100), Fraction(1, 10 ** 6), Fraction(-1, 10 ** 6)):
+                other_pair = pair_of(max(Fraction(0), other_load + step))
+                if max(other_pair) <= MOST:
+                    self.assertTrue(self.check(LadderSample(row, pair), LadderSample(other_row, other_pair)))
+            if max(pair_of(other_load)) <= MOST:
+                told = self.told(Ladder(pattern_of(row), pair), Ladder(pattern_of(other_row), pair_of(other_load)))
+                self.assertEqual(sorted(map(str, told)), ["from 0", "none", "none"])
+
+    def test_orders_that_change_twice(self):
+        for text, load, other_text, other_load, told in [
+            ("rung 2, rung 4, rail 3", 14, "rung 3, rail 1, rung 1", 30, "0, from 2"), ("rail 5, rung 4, rung 5", 1, "rung 12, rail 11, rung 10", 0, "1"),
+        ]:
+            sample, other = LadderSample(row_with(text), load), LadderSample(row_with(other_text), other_load)
+            self.assertTrue(self.check(sample, other))
+            self.assertEqual(str(less(sample.run, other.run)), told)
+
+    def test_boxes_whose_kind_changes(self):
+        for texts, load, sense, other_text, other_load, told in [
+            (("rail 6, rung 2, rail 2", "rail 1"), (29, 7), -1, "rail 4, rung 7", 0, "2 to 3"),
+            (("rail 4, rung 5, rail 8", "rail 6, rung 2, rail 10", "rail 1"), 2, -1, "rail 2, rung 10, rail 6", 1, "1 to 10"),
+            (("rail 2, rung 1, rung 8", "rail 1"), 1, -1, "rung 8, rung 10, rail 4", 0, "1"),
+            (("rail 2, rung 3, rail 10", "rung 12"), 21, 1, "rung 7, rail 8", 100, "0, from 2"),
+            (("rail 10, rung 7, rail 10", "rail 2"), 7, -1, "rail 8, rung 11, rail 8", 0, "1 to 10"),
+        ]:
+            sample, other = BoxSample([row_with(text) for text in texts], load, sense), LadderSample(row_with(other_text), other_load)
+            self.assertTrue(self.check(sample, other))
+            self.assertEqual(str(less(sample.run, other.run)), told)
 
     def test_many_times_over(self):
         for text in ("rail 1, rung 1", "rail 1, rung 2", "rung 6, rail 3", "rail 1, rung 12", "rail 3, rung 4", "rung 2, rail 9"):
