@@ -28,11 +28,23 @@ def sign_at(parabola, pair):
     return sign(square * top * top + line * top * bottom + whole * bottom * bottom)
 
 
+def sign_far_out(parabola):
+    """The sign that all great enough fractions have in common."""
+    square, line, whole = parabola
+    return sign(square) or sign(line) or sign(whole)
+
+
+def sign_from(parabola, pair):
+    """The sign at a fraction, and far out if the pair is an open end."""
+    # In front of the open end itself two patterns may show the same, but not in front of the fractions next to it.
+    return sign_far_out(parabola) if pair[1] == 0 else sign_at(parabola, pair)
+
+
 def sign_towards(parabola, limit):
-    """The sign at a limit, and behind all fractions if this is an open end."""
+    """The sign at a limit, and far out if this is an open end."""
     square, line, whole = parabola
     if limit == OPEN:
-        return sign(square) or sign(line) or sign(whole)
+        return sign_far_out(parabola)
     limit_square, limit_line, limit_whole = limit.parts
     if limit_square == 0:
         return sign_at(parabola, (limit_whole, limit_line))
@@ -44,7 +56,8 @@ def sign_towards(parabola, limit):
 
 def never_below(parabola, pair, limit):
     """Whether the parabola is at least 0 from the pair on to the limit, which may lie on either side."""
-    if sign_at(parabola, pair) < 0 or sign_towards(parabola, limit) < 0:
+    # What is so far out is so at the open end, too, as the square alone tells the sign there.
+    if sign_from(parabola, pair) < 0 or sign_towards(parabola, limit) < 0:
         return False
     square, line, whole = parabola
     if square <= 0 or line >= 0 or line * line <= 4 * square * whole:

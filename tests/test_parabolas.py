@@ -7,7 +7,7 @@ from random import Random
 from model import number_of, order_of, pair_from, row_shows
 from rungladders.exact import Exact
 from rungladders.limits import OPEN
-from rungladders.parabolas import difference, never_below, sign_at, sign_towards
+from rungladders.parabolas import difference, never_below, sign_at, sign_from, sign_towards
 from run_samples import Drawer, pattern_of
 
 LIMITS = [OPEN, Exact(0, 1, 0), Exact(0, 1, 2), Exact(0, 3, 7), Exact(0, 2, 1), Exact(1, -1, 1), Exact(1, 1, 1), Exact(1, 0, 3), Exact(3, -7, 5), Exact(2, 5, 9)]
@@ -49,6 +49,12 @@ class ParabolasTest(unittest.TestCase):
                 self.assertEqual(sign_at(parabola, pair), sign_of(value_at(parabola, Fraction(*pair))))
             self.assertEqual(sign_at(parabola, (1, 0)), sign_of(parabola[0]))
 
+    def test_signs_from_pairs(self):
+        for parabola in self.drawn(400):
+            for pair in ((0, 1), (1, 3), (2, 1), (7, 2), (100, 1)):
+                self.assertEqual(sign_from(parabola, pair), sign_of(value_at(parabola, Fraction(*pair))))
+            self.assertEqual(sign_from(parabola, OPEN), sign_of(value_at(parabola, Fraction(10 ** 9))))
+
     def test_signs_towards_limits(self):
         for parabola in self.drawn(400):
             for limit in LIMITS:
@@ -87,6 +93,23 @@ class ParabolasTest(unittest.TestCase):
                         continue
                     low, high = sorted([Fraction(*pair), Fraction(limit.floor(10 ** 40), 10 ** 40)])
                     self.assertIs(never_below(parabola, pair, limit), is_never_below(parabola, low, high), (parabola, pair, limit))
+
+    def test_never_below_from_open_ends(self):
+        lines = [(0, line, whole) for line in range(-3, 4) for whole in range(-9, 10)]
+        found = []
+        for parabola in [*self.drawn(1500), *lines]:
+            for limit in LIMITS:
+                if limit != OPEN and limit.fraction is None:
+                    square, line, whole = limit.equation
+                    if parabola[0] * line == parabola[1] * square and -parabola[0] * whole == parabola[2] * square:
+                        continue
+                low = Fraction(10 ** 9) if limit == OPEN else Fraction(limit.floor(10 ** 40), 10 ** 40)
+                if limit != OPEN and limit.fraction is not None:
+                    low = Fraction(*limit.fraction)
+                expected = is_never_below(parabola, low, Fraction(10 ** 10))
+                self.assertIs(never_below(parabola, OPEN, limit), expected, (parabola, limit))
+                found.append(expected)
+        self.assertGreater(min(found.count(True), found.count(False)), 3000)
 
     def test_differences(self):
         drawer = Drawer(111)
